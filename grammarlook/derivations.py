@@ -127,3 +127,34 @@ def find_follows(n, t, rules, nullable, firsts):
             if spread_follow(rule, t, nullable, firsts, follows):
                 changed = True
     return follows
+
+
+def rule_tokens(rule, t, nullable, firsts, follows):
+    """Gives the set of tokens, and the end, that a rule is one for."""
+    found = row_first(rule[1], t, nullable, firsts)
+    if row_settles(rule[1], t, nullable, False):
+        found = found | follows[rule[0]]
+    return found
+
+
+def find_choices(n, t, rules, nullable, firsts, follows):
+    """Gives for each nonterminal and each token (the end last) the numbers of the rules that are one, rising."""
+    choices = []
+    for a in range(n):
+        choices.append([[] for token in range(t + 1)])
+    for number, rule in enumerate(rules):
+        found = rule_tokens(rule, t, nullable, firsts, follows)
+        for token in range(t + 1):
+            if (found >> token) & 1 == 1:
+                choices[rule[0]][token].append(number)
+    return choices
+
+
+def find_conflicts(choices):
+    """Gives of each conflict, in their order, four numbers: nonterminal, token, the two least rules."""
+    found = []
+    for a, row in enumerate(choices):
+        for token, numbers in enumerate(row):
+            if len(numbers) > 1:
+                found.extend([a, token, numbers[0], numbers[1]])
+    return found

@@ -7,10 +7,15 @@ RULE = 1
 CLOSE = 2
 EMPTY = 3
 FIRST = 4
+FOLLOW = 5
+CHOOSE = 6
+CONFLICTS = 7
+START = 8
+NEXT = 9
 
 # How many whole numbers stand behind each call's own number. A rule has the length of its row among them; the row
 # itself is not counted, since it is longer or shorter from call to call.
-ARGUMENTS = {0: 2, 1: 2, 2: 0, 3: 1, 4: 1, 5: 1}
+ARGUMENTS = {0: 2, 1: 2, 2: 0, 3: 1, 4: 1, 5: 1, 6: 2, 7: 0, 8: 0, 9: 1, 10: 0}
 
 
 def place_behind(calls, place):
@@ -33,7 +38,17 @@ def answer(grammar, call):
         return grammar.empty(call[1])
     if call[0] == FIRST:
         return grammar.first(call[1])
-    return grammar.follow(call[1])
+    if call[0] == FOLLOW:
+        return grammar.follow(call[1])
+    if call[0] == CHOOSE:
+        return grammar.choose(call[1], call[2])
+    if call[0] == CONFLICTS:
+        return grammar.conflicts()
+    if call[0] == START:
+        return grammar.start()
+    if call[0] == NEXT:
+        return grammar.take(call[1])
+    return grammar.expected()
 
 
 def answers(calls):

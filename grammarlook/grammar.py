@@ -4,15 +4,22 @@ Each method that is a call gives back its answer as a list of whole numbers:
 0 and what is answered, or the refusal.
 """
 
+from grammarlook.derivations import find_choices
+from grammarlook.derivations import find_conflicts
 from grammarlook.derivations import find_firsts
 from grammarlook.derivations import find_follows
 from grammarlook.derivations import find_nullable
 from grammarlook.derivations import find_useless
+from grammarlook.taking import find_expected
+from grammarlook.taking import is_too_much
+from grammarlook.taking import take_away
 
 DONE = 0
 OUT_OF_RANGE = -1
-FULL = -2
+TOO_MANY = -2
 NOT_NOW = -3
+NONE_FITS = -4
+SEVERAL = -5
 USELESS = -6
 
 MOST_NONTERMINALS = 32
@@ -27,7 +34,7 @@ def members(bits, t):
 
 
 class Grammar:
-    """A grammar that is built rule by rule, closed, and then asked."""
+    """A grammar that is built rule by rule, closed, and then asked, and the text that it takes."""
 
     def __init__(self):
         self.begin(1, 1)
@@ -43,6 +50,10 @@ class Grammar:
         self.nullable = []
         self.firsts = []
         self.follows = []
+        self.choices = []
+        self.clashes = []
+        # None where no text is under way: an empty row is one whose end can still be taken.
+        self.to_come = None
         return [DONE]
 
     def symbols_fit(self, symbols):
@@ -61,7 +72,7 @@ class Grammar:
         if a >= self.nonterminals or not self.symbols_fit(symbols):
             return [OUT_OF_RANGE]
         if len(self.rules) >= MOST_RULES:
-            return [FULL]
+            return [TOO_MANY]
         self.rules.append((a, tuple(symbols)))
         return [DONE, len(self.rules) - 1]
 
@@ -83,6 +94,8 @@ class Grammar:
         self.nullable = find_nullable(n, t, self.rules)
         self.firsts = find_firsts(n, t, self.rules, self.nullable)
         self.follows = find_follows(n, t, self.rules, self.nullable, self.firsts)
+        self.choices = find_choices(n, t, self.rules, self.nullable, self.firsts, self.follows)
+        self.clashes = find_conflicts(self.choices)
 
     def refusal(self, a):
         """Gives the refusal of a question about nonterminal a: empty if there is none."""
@@ -112,3 +125,58 @@ class Grammar:
         if len(refused) > 0:
             return refused
         return [DONE] + members(self.follows[a], self.tokens)
+
+    def choose(self, a, token):
+        """Call 6."""
+        refused = self.refusal(a)
+        if len(refused) > 0:
+            return refused
+        if token > self.tokens:
+            return [OUT_OF_RANGE]
+        numbers = self.choices[a][token]
+        if len(numbers) > 1:
+            return [SEVERAL]
+        if len(numbers) == 0:
+            return [NONE_FITS]
+        return [DONE, numbers[0]]
+
+    def conflicts(self):
+        """Call 7."""
+        if not self.closed:
+            return [NOT_NOW]
+        return [DONE] + self.clashes
+
+    def start(self):
+        """Call 8."""
+        if not self.closed:
+            return [NOT_NOW]
+        if len(self.clashes) > 0:
+            return [SEVERAL]
+        self.to_come = [self.tokens]
+        return [DONE]
+
+    def expected_bits(self):
+        """Gives the set of what can be taken next, where a text is under way."""
+        return find_expected(self.to_come, self.tokens, self.nullable, self.firsts)
+
+    def take(self, token):
+        """Call 9."""
+        if self.to_come is None:
+            return [NOT_NOW]
+        if token > self.tokens:
+            return [OUT_OF_RANGE]
+        if (self.expected_bits() >> token) & 1 == 0:
+            return [NONE_FITS]
+        # Worked on a copy, since only at its end it is known if the token is refused.
+        left = list(self.to_come)
+        told = take_away(left, token, self.tokens, self.rules, self.choices)
+        if is_too_much(told, left):
+            return [TOO_MANY]
+        self.to_come = None if token == self.tokens else left
+        return [DONE] + told
+
+    def expected(self):
+        """Call 10."""
+        if self.to_come is None:
+            return [NOT_NOW]
+        return [DONE] + members(self.expected_bits(), self.tokens)

@@ -1,11 +1,21 @@
 """Calls written by name, and answers taken apart again."""
 
+import contextlib
+import signal
+
 from grammarlook.desk import answers
 
 GREATEST = 4294967295
 NOT_NOW = [-3]
 OUT_OF_RANGE = [-1]
-FULL = [-2]
+TOO_MANY = [-2]
+NONE_FITS = [-4]
+SEVERAL = [-5]
+SECONDS = 20
+
+# A sum of products: S -> P T, T -> 0 P T | nothing, P -> F U, U -> 1 F U | nothing, F -> 2 S 3 | 4.
+# S, T, P, U, F are written 5, 6, 7, 8, 9.
+SUM = (5, 5, ((0, (7, 6)), (1, (0, 7, 6)), (1, ()), (2, (9, 8)), (3, (1, 9, 8)), (3, ()), (4, (2, 5, 3)), (4, (4,))))
 
 
 def begin(n, t):
@@ -32,6 +42,47 @@ def follow(a):
     return [5, a]
 
 
+def choose(a, token):
+    return [6, a, token]
+
+
+def conflicts():
+    return [7]
+
+
+def start():
+    return [8]
+
+
+def take(token):
+    """The document's next, which Python means otherwise."""
+    return [9, token]
+
+
+def expected():
+    return [10]
+
+
+def text(tokens):
+    """The calls that begin a text and take its tokens."""
+    return [start()] + [take(token) for token in tokens]
+
+
+@contextlib.contextmanager
+def soon():
+    """Fails what takes longer than some seconds, so that what would take for ever is seen as a failure."""
+    def late(number, frame):
+        raise AssertionError("not soon")
+
+    before = signal.signal(signal.SIGALRM, late)
+    signal.alarm(SECONDS)
+    try:
+        yield
+    finally:
+        signal.alarm(0)
+        signal.signal(signal.SIGALRM, before)
+
+
 def take_apart(numbers, count):
     """The answers of a number of calls, each a list; raises where the form isn't the document's."""
     found = []
@@ -52,6 +103,8 @@ def ask(*calls):
     together = []
     for call in calls:
         together.extend(call)
+    if not 1 <= len(calls) <= 400 or len(together) > 31000:
+        raise ValueError("a list that the document doesn't allow")
     return take_apart(answers(together), len(calls))
 
 
@@ -60,16 +113,21 @@ def built(n, t, rules):
     return [begin(n, t)] + [rule(a, symbols) for a, symbols in rules] + [close()]
 
 
+def asked(n, t, rules, calls):
+    """The answers of calls on a grammar that can be closed, without those that build it."""
+    building = built(n, t, rules)
+    found = ask(*(building + calls))
+    if found[len(building) - 1] != [0]:
+        raise ValueError("not closed: " + str(found[len(building) - 1]))
+    return found[len(building):]
+
+
 def told(n, t, rules):
     """Of a grammar that can be closed: (comes to nothing, first, follow) of each nonterminal."""
-    calls = built(n, t, rules)
     questions = []
     for a in range(n):
         questions.extend([empty(a), first(a), follow(a)])
-    found = ask(*(calls + questions))
-    if found[len(calls) - 1] != [0]:
-        raise ValueError("not closed: " + str(found[len(calls) - 1]))
-    found = found[len(calls):]
+    found = asked(n, t, rules, questions)
     for answer in found:
         if answer[0] != 0:
             raise ValueError("refused: " + str(answer))

@@ -2,7 +2,8 @@
 
 import unittest
 
-from tests.helper import GREATEST, NOT_NOW, OUT_OF_RANGE, ask, begin, built, close, empty, first, follow, rule, told
+from tests.helper import GREATEST, NOT_NOW, OUT_OF_RANGE, SUM, ask, begin, built, close, empty, first, follow, rule
+from tests.helper import told
 
 
 class Refused(unittest.TestCase):
@@ -129,10 +130,8 @@ class Follow(unittest.TestCase):
                                              ([0], [2, 4], [0, 1, 3, 5])])
 
     def test_without_left_recursion(self):
-        # S -> P T, T -> 0 P T | nothing, P -> F U, U -> 1 F U | nothing, F -> 2 S 3 | 4.
-        rules = [(0, [7, 6]), (1, [0, 7, 6]), (1, []), (2, [9, 8]), (3, [1, 9, 8]), (3, []), (4, [2, 5, 3]), (4, [4])]
-        self.assertEqual(told(5, 5, rules), [([0], [2, 4], [3, 5]), ([1], [0], [3, 5]), ([0], [2, 4], [0, 3, 5]),
-                                             ([1], [1], [0, 3, 5]), ([0], [2, 4], [0, 1, 3, 5])])
+        self.assertEqual(told(*SUM), [([0], [2, 4], [3, 5]), ([1], [0], [3, 5]), ([0], [2, 4], [0, 3, 5]),
+                                      ([1], [1], [0, 3, 5]), ([0], [2, 4], [0, 1, 3, 5])])
 
     def test_the_end_is_t_and_stands_last(self):
         for t in (1, 2, 63):

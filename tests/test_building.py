@@ -2,7 +2,7 @@
 
 import unittest
 
-from tests.helper import FULL, GREATEST, NOT_NOW, OUT_OF_RANGE, ask, begin, built, close, empty, first, follow, rule
+from tests.helper import GREATEST, NOT_NOW, OUT_OF_RANGE, TOO_MANY, ask, begin, built, close, empty, first, follow, rule
 
 
 class Begin(unittest.TestCase):
@@ -87,7 +87,7 @@ class Rule(unittest.TestCase):
     def test_the_128th_and_the_129th(self):
         found = ask(*([begin(1, 1)] + [rule(0, [0])] * 130))
         self.assertEqual(found[1:129], [[0, number] for number in range(128)])
-        self.assertEqual(found[129:], [FULL, FULL])
+        self.assertEqual(found[129:], [TOO_MANY, TOO_MANY])
 
     def test_refused_rules_take_no_number(self):
         found = ask(begin(1, 1), rule(0, []), rule(1, []), rule(0, [2]), rule(0, [0] * 9), rule(0, []))
@@ -102,7 +102,7 @@ class Rule(unittest.TestCase):
 
     def test_out_of_range_ahead_of_full(self):
         calls = [rule(0, [])] * 128 + [rule(1, []), rule(0, [2]), rule(0, [0] * 9), rule(0, [])]
-        self.assertEqual(ask(*calls)[128:], [[-1], [-1], [-1], FULL])
+        self.assertEqual(ask(*calls)[128:], [[-1], [-1], [-1], TOO_MANY])
 
     def test_a_rule_out_of_range_leaves_all_as_it_was(self):
         calls = [begin(2, 2), rule(0, [3]), rule(2, [0]), rule(1, [0, 4]), rule(1, [0] * 9), close()]
@@ -112,7 +112,7 @@ class Rule(unittest.TestCase):
 
     def test_the_129th_leaves_all_as_it_was(self):
         found = ask(*([rule(0, [0])] * 128 + [rule(0, []), close(), empty(0)]))
-        self.assertEqual(found[128:], [FULL, [0], [0, 0]])
+        self.assertEqual(found[128:], [TOO_MANY, [0], [0, 0]])
 
     def test_a_rule_of_a_closed_grammar_leaves_all_as_it_was(self):
         found = ask(*(built(1, 2, [(0, [0])]) + [rule(0, [1]), rule(0, []), empty(0), first(0), follow(0), close()]))

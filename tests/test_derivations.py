@@ -8,7 +8,7 @@ since the grammars are always the same ones.
 import random
 import unittest
 
-from tests.helper import ask, built, told
+from tests.helper import ask, asked, built, choose, conflicts, start, told
 
 LONGEST = 8
 
@@ -22,10 +22,10 @@ def rewritings(row, t, rules):
     return found
 
 
-def rows_from(symbol, t, rules):
-    """All rows up to the bound that the symbol leads to by rows within the bound."""
-    seen = {(symbol,)}
-    waiting = [(symbol,)]
+def rows_from(row, t, rules):
+    """All rows up to the bound that a row leads to by rows within the bound."""
+    seen = {tuple(row)}
+    waiting = [tuple(row)]
     while waiting:
         for row in rewritings(waiting.pop(), t, rules):
             if len(row) <= LONGEST and row not in seen:
@@ -55,11 +55,44 @@ def follow_by_rows(a, t, rows):
     return sorted(found)
 
 
+def begins_by_rows(t, rows):
+    return sorted(set(row[0] for row in rows if len(row) > 0 and row[0] < t))
+
+
 def told_by_rows(n, t, rows):
     found = []
     for a in range(n):
-        begins = sorted(set(row[0] for row in rows[a] if len(row) > 0 and row[0] < t))
-        found.append(([1 if () in rows[a] else 0], begins, follow_by_rows(a, t, rows)))
+        found.append(([1 if () in rows[a] else 0], begins_by_rows(t, rows[a]), follow_by_rows(a, t, rows)))
+    return found
+
+
+def ones_by_rows(n, t, rules, rows):
+    """Of each nonterminal and each token (the end last) the numbers of the rules that are one."""
+    found = [[[] for token in range(t + 1)] for a in range(n)]
+    for number, (a, right) in enumerate(rules):
+        made = rows_from(right, t, rules)
+        tokens = set(begins_by_rows(t, made))
+        if () in made:
+            tokens.update(follow_by_rows(a, t, rows))
+        for token in tokens:
+            found[a][token].append(number)
+    return found
+
+
+def choices_by_rows(ones):
+    found = []
+    for row in ones:
+        for numbers in row:
+            found.append([-4] if len(numbers) == 0 else [0] + numbers if len(numbers) == 1 else [-5])
+    return found
+
+
+def conflicts_by_rows(ones):
+    found = [0]
+    for a, row in enumerate(ones):
+        for token, numbers in enumerate(row):
+            if len(numbers) > 1:
+                found.extend([a, token] + numbers[:2])
     return found
 
 
@@ -79,9 +112,10 @@ class Derivations(unittest.TestCase):
         source = random.Random(28)
         closed = 0
         refused = 0
+        plain = 0
         for turn in range(200):
             n, t, rules = small_grammar(source)
-            rows = [rows_from(t + a, t, rules) for a in range(n)]
+            rows = [rows_from([t + a], t, rules) for a in range(n)]
             useless = useless_by_rows(n, t, rows)
             with self.subTest(n=n, t=t, rules=rules):
                 if len(useless) > 0:
@@ -90,8 +124,16 @@ class Derivations(unittest.TestCase):
                 else:
                     closed += 1
                     self.assertEqual(told(n, t, rules), told_by_rows(n, t, rows))
+                    ones = ones_by_rows(n, t, rules, rows)
+                    clashes = conflicts_by_rows(ones)
+                    plain += 1 if clashes == [0] else 0
+                    calls = [choose(a, token) for a in range(n) for token in range(t + 1)] + [conflicts(), start()]
+                    self.assertEqual(asked(n, t, rules, calls),
+                                     choices_by_rows(ones) + [clashes, [0] if clashes == [0] else [-5]])
         self.assertGreater(closed, 50)
         self.assertGreater(refused, 50)
+        self.assertGreater(plain, 20)
+        self.assertGreater(closed - plain, 20)
 
 
 if __name__ == "__main__":

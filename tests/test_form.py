@@ -14,6 +14,7 @@ BUILT_IN = ("len range enumerate zip min max sum abs sorted reversed int str boo
 METHODS = ("append clear copy count endswith extend find get index insert isalnum isalpha isdigit islower isspace "
            "isupper items join keys ljust lower lstrip partition pop remove replace reverse rfind rjust rpartition "
            "rsplit rstrip setdefault split splitlines startswith strip update upper values zfill bit_length").split()
+WALKERS = "list tuple dict sorted sum any all enumerate zip min max".split()
 WORDS = ("type typing typing_extensions enum Enum IntEnum StrEnum Flag IntFlag Generic Protocol ABC ABCMeta "
          "namedtuple NamedTuple TypedDict TYPE_CHECKING abstractmethod").split()
 NOT_NAMES = ("register mro elements open input version_info with_traceback add_note attrgetter breakpoint builtins "
@@ -207,6 +208,32 @@ class Form(unittest.TestCase):
         for place, node in nodes(ast.Call):
             if isinstance(node.func, ast.Attribute):
                 self.assertIn(node.func.attr, METHODS + own, place)
+
+    def test_own_methods_and_values(self):
+        """L26"""
+        pythons_own = set()
+        for value in ("", 0, [], (), {}, set(), b""):
+            pythons_own.update(dir(value))
+        values = "count index title find get join lower upper split strip copy add".split()
+        for place, node in nodes(ast.Attribute):
+            if isinstance(node.ctx, ast.Store) and node.attr not in values:
+                self.assertNotIn(node.attr, pythons_own, place)
+        for place, node in nodes(ast.ClassDef):
+            for part in node.body:
+                if isinstance(part, ast.FunctionDef) and part.name not in METHODS + ["add", "discard", "__init__"]:
+                    self.assertNotIn(part.name, pythons_own, place)
+
+    def test_walked_at_once(self):
+        """L23"""
+        walked = []
+        for place, node in nodes(ast.For, ast.comprehension, ast.Call):
+            if not isinstance(node, ast.Call):
+                walked.append(ast.dump(node.iter, include_attributes=True))
+            elif isinstance(node.func, ast.Name) and node.func.id in WALKERS and len(node.args) > 0:
+                walked.append(ast.dump(node.args[0], include_attributes=True))
+        for place, node in nodes(ast.Call):
+            if isinstance(node.func, ast.Name) and node.func.id in ("zip", "enumerate", "reversed", "range"):
+                self.assertIn(ast.dump(node, include_attributes=True), walked, place)
 
 
 if __name__ == "__main__":
